@@ -1,0 +1,1 @@
+"""Buffers that devices reach through windows, copies and cached lines."""
