@@ -17,6 +17,10 @@ INTERFACE = {
                "NoRoom", "NoTable"],
     "runs": ["Run", "segments"],
     "lines": ["Lines"],
+    "spaces": ["Space"],
+    "settings": ["Book", "Setting"],
+    "machine": ["Machine"],
+    "playing": ["play", "plain", "first_breach"],
 }
 
 LIBRARY = {
@@ -186,6 +190,76 @@ class Code(unittest.TestCase):
         for path, node in functions():
             if any(isinstance(part, (ast.Yield, ast.YieldFrom)) for part in ast.walk(node)):
                 self.assertEqual(names.count(node.name), 1, (path.name, node.name))
+
+    def test_generators_are_iterated_at_once(self):
+        names = {node.name for _, node in functions()
+                 if any(isinstance(part, (ast.Yield, ast.YieldFrom)) for part in ast.walk(node))}
+        for path in FILES:
+            tree = parsed(path)
+            iterated = [node.iter for node in ast.walk(tree) if isinstance(node, (ast.For, ast.comprehension))]
+            iterated += [node.args[0] for node in ast.walk(tree) if isinstance(node, ast.Call) and node.args
+                         and ast.unparse(node.func) in ("list", "tuple", "sorted", "enumerate", "zip")]
+            for node in ast.walk(tree):
+                if isinstance(node, ast.Call) and isinstance(node.func, ast.Attribute) and node.func.attr in names:
+                    self.assertIn(node, iterated, (path.name, ast.unparse(node)))
+
+    def test_views_are_iterated_at_once(self):
+        for path in FILES:
+            tree = parsed(path)
+            iterated = [node.iter for node in ast.walk(tree) if isinstance(node, (ast.For, ast.comprehension))]
+            iterated += [node.args[0] for node in ast.walk(tree) if isinstance(node, ast.Call) and node.args
+                         and ast.unparse(node.func) in ("list", "tuple", "sorted", "sum", "dict")]
+            for node in ast.walk(tree):
+                if isinstance(node, ast.Call) and (ast.unparse(node.func) in ("zip", "enumerate", "reversed") or (
+                        isinstance(node.func, ast.Attribute) and node.func.attr in ("items", "keys", "values"))):
+                    self.assertIn(node, iterated, (path.name, ast.unparse(node)))
+
+    def test_no_generator_expressions(self):
+        # Some class has __eq__, so that any, all, sum, min, max and sorted take lists.
+        for path, node in nodes(ast.GeneratorExp):
+            self.fail((path.name, ast.unparse(node)))
+
+    def test_exit_only_assigns(self):
+        for path, node in functions():
+            if node.name == "__exit__":
+                for row in node.body:
+                    self.assertIsInstance(row, ast.Assign, path.name)
+                    self.assertIsInstance(row.value, ast.Constant, path.name)
+
+    def test_operators_and_properties_assign_nothing(self):
+        for path, node in functions():
+            operator = node.name.startswith("__") and node.name not in ("__init__", "__enter__", "__exit__")
+            if operator or "property" in [ast.unparse(decorator) for decorator in node.decorator_list]:
+                for part in ast.walk(node):
+                    if isinstance(part, (ast.Attribute, ast.Subscript)):
+                        self.assertIsInstance(part.ctx, ast.Load, (path.name, node.name))
+
+    def test_no_name_is_a_method_and_an_attribute(self):
+        for path, node in nodes(ast.ClassDef):
+            methods = {row.name for row in node.body if isinstance(row, ast.FunctionDef)}
+            attributes = {part.attr for part in ast.walk(node)
+                          if isinstance(part, ast.Attribute) and isinstance(part.ctx, ast.Store)}
+            self.assertEqual(methods & attributes, set(), (path.name, node.name))
+
+    def test_names_of_properties_mean_nothing_else(self):
+        properties = {node.name for _, node in functions()
+                      if "property" in [ast.unparse(decorator) for decorator in node.decorator_list]}
+        for path, node in functions():
+            if "property" not in [ast.unparse(decorator) for decorator in node.decorator_list]:
+                self.assertNotIn(node.name, properties, path.name)
+        for path, node in nodes(ast.Attribute):
+            if not isinstance(node.ctx, ast.Load):
+                self.assertNotIn(node.attr, properties, path.name)
+
+    def test_no_import_cycles(self):
+        needs = {path.stem: {node.module.split(".")[1] for node in ast.walk(parsed(path))
+                             if isinstance(node, ast.ImportFrom) and node.module.startswith("devicewindows.")}
+                 for path in FILES}
+        while needs:
+            ready = [name for name in needs if not needs[name] & set(needs)]
+            self.assertNotEqual(ready, [], sorted(needs))
+            for name in ready:
+                del needs[name]
 
     def test_is(self):
         for path, node in nodes(ast.Compare):
