@@ -1,6 +1,6 @@
 """The rules under which events have the answers of plain memory."""
 
-from devicewindows.runs import Run
+from devicewindows.owning import beside, owns, row_of
 from devicewindows.settings import DIRECTIONS, READING, WRITING
 
 
@@ -11,9 +11,9 @@ def _of_bind(owners, event):
 
 def _of_give(owners, event):
     _, name, first, many = event
-    own = _row(owners, name)
+    own = row_of(owners, name)
     # Words that the device owns already stay as they are, so those of other mappings are left.
-    words = [word for word in range(first, first + many) if not _owns(own, word)]
+    words = [word for word in range(first, first + many) if not owns(own, word)]
     return _shared(owners, words, own[4])
 
 
@@ -27,8 +27,7 @@ def _of_write(owners, event):
     word = event[1]
     if _is_owned(owners, word, DIRECTIONS):
         return "write", word
-    beside = Run.LINE * (word // Run.LINE) + 1 - word % Run.LINE
-    if _is_owned(owners, beside, WRITING):
+    if _is_owned(owners, beside(word), WRITING):
         return "line", word
     return None
 
@@ -58,29 +57,18 @@ def _shared(owners, words, direction):
     """The breach that a device would own one of these words with the direction, too."""
     for word in words:
         for row in owners:
-            if _owns(row, word) and not (direction == "to" and row[4] == "to"):
+            if owns(row, word) and not (direction == "to" and row[4] == "to"):
                 return "share", word
     return None
 
 
 def _of_device(owners, event, directions):
-    row = _row(owners, event[1])
-    if _owns(row, event[2]) and row[4] in directions:
+    row = row_of(owners, event[1])
+    if owns(row, event[2]) and row[4] in directions:
         return None
     return "device", event[2]
 
 
 def _is_owned(owners, word, directions):
     """Whether a device owns the word in a mapping with one of the directions."""
-    return any([row[4] in directions and _owns(row, word) for row in owners])
-
-
-def _owns(row, word):
-    """Whether the device of this row of the owners owns the word."""
-    _, _, first, many, _, marks = row
-    return first <= word < first + many and marks[word - first] == "d"
-
-
-def _row(owners, name):
-    """The row of the mapping that is called so."""
-    return [row for row in owners if row[0] == name][0]
+    return any([row[4] in directions and owns(row, word) for row in owners])

@@ -6,14 +6,11 @@ from devicewindows.errors import (
 )
 from devicewindows.kinds import is_name, whole
 from devicewindows.lines import Lines
-from devicewindows.mappings import Mapping
+from devicewindows.mappings import LONGEST, MOST_BOUND, Mapping
 from devicewindows.places import Place
 from devicewindows.runs import Run
 from devicewindows.settings import DIRECTIONS, READING, WRITING, Setting, same_setting
 from devicewindows.tables import Tables
-
-_MOST_BOUND = 4
-_LONGEST = 16
 
 
 class Machine:
@@ -251,12 +248,12 @@ class Machine:
         if name in self._mappings:
             raise Busy(name)
         self._device(device)
-        if not isinstance(run, Run) or run.many > _LONGEST or run.end > len(self._memory):
+        if not isinstance(run, Run) or run.many > LONGEST or run.end > len(self._memory):
             raise BadRun("a mapping has a run of at most 16 words in memory")
         if direction not in DIRECTIONS:
             raise BadDirection("a direction is to, from or both")
-        if len(self._mappings) >= _MOST_BOUND:
-            raise Full(_MOST_BOUND)
+        if len(self._mappings) >= MOST_BOUND:
+            raise Full(MOST_BOUND)
 
     def _check_word(self, word):
         if not whole(word, 0, len(self._memory) - 1):

@@ -2,6 +2,10 @@
 
 from devicewindows.runs import Run
 
+# So many mappings may be bound at once, each with a run of so many words.
+MOST_BOUND = 4
+LONGEST = 16
+
 
 class Mapping:
     """A run of words and its places, one for each page that it touches; the device owns all words at first.

@@ -67,15 +67,7 @@ class Space:
     # Not a generator, as none may share its name with another method, and Machine has one of this name.
     def holes(self):
         """The holes, ascending."""
-        found = []
-        end = 0
-        for first in sorted(self._taken):
-            if end < first:
-                found.append(Run.between(end, first))
-            end = first + self._taken[first]
-        if end < self._pages:
-            found.append(Run.between(end, self._pages))
-        return found
+        return holes_of(self._taken, self._pages)
 
     def take(self, many):
         """A run of free pages by the policy; they are taken now."""
@@ -85,20 +77,13 @@ class Space:
 
     def choose(self, many):
         """The run that a request for so many pages is answered with; nothing is taken yet."""
-        size = many
-        if self._policy == "halves":
-            size = _power(many)
-        holes = [hole for hole in self.holes() if hole.many >= size]
-        if not holes:
-            raise NoRoom(many)
         if isinstance(self._policy, str):
-            choice = _CHOICES[self._policy]
-            first = choice(holes, size, self._mark)
+            run = answer_of(self._policy, self.holes(), many, self._mark)
         else:
-            first = self._asked(holes, many)
-        if first is None:
+            run = self._asked(many)
+        if run is None:
             raise NoRoom(many)
-        return Run(first, size)
+        return run
 
     def occupy(self, run):
         """Take the pages of a run that was chosen."""
@@ -112,14 +97,50 @@ class Space:
             raise NotTaken("this run was not answered, or is given back already")
         del self._taken[run.first]
 
-    def _asked(self, holes, many):
-        """The first page of the hole that the function chooses."""
+    def _asked(self, many):
+        """The run at the beginning of the hole that the function chooses, None if there is no such hole."""
+        holes = [hole for hole in self.holes() if hole.many >= many]
+        if not holes:
+            return None
         policy = self._policy
         # The function may change its list.
         hole = policy(list(holes), many)
         if hole not in holes:
             raise BadPolicy("the function returned none of the holes")
-        return hole.first
+        return Run(hole.first, many)
+
+
+def holes_of(taken, pages):
+    """The holes of so many pages, ascending; taken has for each taken run's first page how many it has."""
+    found = []
+    end = 0
+    for first in sorted(taken):
+        if end < first:
+            found.append(Run.between(end, first))
+        end = first + taken[first]
+    if end < pages:
+        found.append(Run.between(end, pages))
+    return found
+
+
+def size_of(policy, many):
+    """How many pages one of the five policies takes for a request."""
+    if policy == "halves":
+        return _power(many)
+    return many
+
+
+def answer_of(policy, holes, many, mark):
+    """The run with which one of the five policies answers a request, None if it is refused."""
+    size = size_of(policy, many)
+    great = [hole for hole in holes if hole.many >= size]
+    if not great:
+        return None
+    choice = _CHOICES[policy]
+    first = choice(great, size, mark)
+    if first is None:
+        return None
+    return Run(first, size)
 
 
 def _power(many):

@@ -21,6 +21,10 @@ INTERFACE = {
     "settings": ["Book", "Setting"],
     "machine": ["Machine"],
     "playing": ["play", "plain", "first_breach"],
+    "drivers": ["look"],
+    "experiments": ["experiment"],
+    "judging": ["judge", "unsafe"],
+    "loads": ["safe_load"],
 }
 
 LIBRARY = {
