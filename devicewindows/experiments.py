@@ -4,7 +4,7 @@ from devicewindows.errors import BadPath
 from devicewindows.kinds import integer
 from devicewindows.owning import beside, owners_after, owns, row_of
 from devicewindows.runs import Run
-from devicewindows.settings import DIRECTIONS, READING, WRITING, Setting
+from devicewindows.settings import READING, WRITING, Setting
 from devicewindows.walks import START, breach_at, check_driver, followers
 
 
@@ -29,7 +29,7 @@ def _breach_of_path(driver, path):
     for number in path:
         if breach is not None:
             raise BadPath("the path goes on behind a breach")
-        states = [state for state in states if integer(number) and number == state[0] < len(driver)]
+        states = [state for state in states if integer(number) and number == state[0]]
         if not states:
             raise BadPath("the driver does not execute these rows")
         owners = states[0][1]
@@ -57,11 +57,11 @@ def _deeds(driver, path):
 # Each of these gives the events right before the breach and those behind it. Except for the one of "line", the other
 # setting has copies, so that what one side writes stays where the other one does not find it.
 def _of_read(owners, deed, word, value):
-    return _stored(_owner(owners, word, WRITING), word, value), []
+    return _stored(_owner(owners, word), word, value), []
 
 
 def _of_write(owners, deed, word, value):
-    row = _owner(owners, word, DIRECTIONS)
+    row = _owner(owners, word)
     if row[4] in READING:
         return [], [("fetch", row[0], word)]
     return [], [_taken(row, word), ("read", word)]
@@ -70,27 +70,27 @@ def _of_write(owners, deed, word, value):
 def _of_line(owners, deed, word, value):
     """The cache has the device's word, too, as it was before the store, and writes it back with the line."""
     owned = beside(word)
-    row = _owner(owners, owned, WRITING)
+    row = _owner(owners, owned)
     evict = ("evict", word // Run.LINE)
-    return [], [*_stored(row, owned, value), evict, _taken(row, owned), ("read", owned)]
+    return [], _stored(row, owned, value) + [evict, _taken(row, owned), ("read", owned)]
 
 
 def _of_share(owners, deed, word, value):
     own = row_of(owners_after(owners, deed), deed[1])
-    other = _owner(owners, word, WRITING if own[4] == "to" else DIRECTIONS)
+    other = _owner(owners, word)
     for writer, reader in ((own, other), (other, own)):
         if writer[4] in WRITING and reader[4] in READING:
-            return [], [*_stored(writer, word, value), ("fetch", reader[0], word)]
+            return [], _stored(writer, word, value) + [("fetch", reader[0], word)]
     # No device can read. With copies the second take puts the older value over the stored one.
-    return [], [*_stored(other, word, value), _taken(other, word), _taken(own, word), ("read", word)]
+    return [], _stored(other, word, value) + [_taken(other, word), _taken(own, word), ("read", word)]
 
 
 _SHOWN = {"read": _of_read, "write": _of_write, "line": _of_line, "share": _of_share}
 
 
-def _owner(owners, word, directions):
-    """The first row with one of the directions whose device owns the word."""
-    return [row for row in owners if row[4] in directions and owns(row, word)][0]
+def _owner(owners, word):
+    """The first row whose device owns the word; if there are others before a breach, all of them have "to"."""
+    return [row for row in owners if owns(row, word)][0]
 
 
 def _stored(row, word, value):

@@ -26,7 +26,7 @@ def safe_load(pages, *, policy, greatest):
 
 
 def _explored(pages, policy, greatest, most):
-    """The states with a load of at most `most`, and None; or those found so far, and the first refused steps."""
+    """The ascending states with a load of at most `most`, and None; or no states, and the first refused steps."""
     # For each state, the first steps that lead to it. Lists are found in their order, shorter ones first.
     lists = {_START: []}
     states = [_START]
@@ -36,7 +36,7 @@ def _explored(pages, policy, greatest, most):
         for step in _steps(states[at], greatest, most):
             state = _after(states[at], step, policy, pages)
             if state is None:
-                return sorted(states), steps + [step]
+                return [], steps + [step]
             if state not in lists:
                 lists[state] = steps + [step]
                 states.append(state)

@@ -89,7 +89,6 @@ class SmallWorld:
         """Hold the line."""
         if self._line is None:
             self._line = list(self._memory)
-            self._dirty = False
 
     def evict(self, line):
         """Clean the line, then drop it."""

@@ -61,8 +61,7 @@ def _is_row(row, many, pages, devices):
         return False
     if word == "bind":
         _, name, device, first, size, direction = row
-        return (is_name(name) and isinstance(device, str) and device in devices and _is_run(first, size, pages)
-                and direction in DIRECTIONS)
+        return is_name(name) and device in devices and _is_run(first, size, pages) and direction in DIRECTIONS
     if word in ("give", "take"):
         return is_name(row[1]) and _is_run(row[2], row[3], pages)
     if word == "unbind":

@@ -348,9 +348,10 @@ class WrongDrivers(unittest.TestCase):
                 for row in (("bind", name, "a", 0, 1, "to"), ("unbind", name), ("give", name, 0, 1),
                             ("take", name, 0, 1)):
                     self.wrong(0, [row])
-        for name in ("a", "z", "abcdefgh", "bind"):
-            self.assertEqual(look([("bind", name, "a", 0, 1, "to"), ("take", name, 0, 1), ("give", name, 0, 1),
-                                   ("unbind", name)])[0], "careful")
+        for name in ("a", "z", "abcdefgh", "bind", "end", "go"):
+            driver = [("bind", name, "a", 0, 1, "to"), ("take", name, 0, 1), ("give", name, 0, 1), ("unbind", name)]
+            found = rows("d", "p", "d", name=name, direction="to")
+            self.assertEqual(look(driver), ("careful", list(enumerate([(), *found, ()]))))
 
     def test_devices(self):
         for device in [0, HUGE] + no_integers() + ["c", "A", "ab"]:
